@@ -6,12 +6,21 @@ import io
 import unittest
 from unittest import mock
 
-from lines import CLOSE, end_that_got, line, opening, reading, writing
+from lines import (ANSWERS, BEGINS, CLOSE, ENDS, STATE, coming, end_that_got, going, line, opening, reading, segment,
+                   ticking, writing)
 from oneend.segments import answers
 
 MIXED = line(opening(3, 1), writing([1, 2, 3]), reading(10), reading(-1), CLOSE, CLOSE, writing([4]),
-             opening(3, 7), opening(4294967295, 0), writing([9] * 17000), writing([9]), CLOSE)
-MIXED_ANSWERS = [1, 0, 1, 3, 1, 0, 1, -2, 1, 0, 1, -1, 1, -1, 1, -2, 1, 0, 1, 16384, 1, 0, 1, 0]
+             opening(3, 7), opening(4294967295, 0), writing([9] * 17000), writing([9]), CLOSE,
+             opening(3, 1), going(), going(13), ticking(400), ticking(1000001), STATE, coming([1, 2]),
+             coming(segment(9, 4, BEGINS | ANSWERS)), writing([5, 6]), going(), STATE,
+             coming(segment(10, 6, ANSWERS | ENDS, 8192, [7, 8])), reading(1), reading(5), reading(5), ticking(5000),
+             CLOSE, going(), ticking(1000), STATE)
+MIXED_ANSWERS = line([1, 0, 1, 3, 1, 0, 1, -2, 1, 0, 1, -1, 1, -1, 1, -2, 1, 0, 1, 16384, 1, 0, 1, 0],
+                     [1, 0], [16, 14, 0, 0, 0, 3, 0, 0, 0, 0, 1, 0, 32, 0, 0, 0, 1], [1, -2, 1, 0, 1, -2, 1, 0, 1, 0],
+                     [1, 1, 1, 2], [18, 16, 0, 0, 0, 4, 0, 0, 0, 10, 4, 0, 32, 0, 0, 0, 5, 6, 1], [1, 1],
+                     [1, 1, 2, 1, 7, 2, 1, 8, 1, -1, 1, 0],
+                     [1, 0], [16, 14, 0, 0, 0, 6, 0, 0, 0, 13, 6, 0, 32, 0, 0, 0, 1], [1, 1, 1, 2])
 
 
 class HowItIsCalled(unittest.TestCase):
@@ -34,11 +43,29 @@ class HowItIsCalled(unittest.TestCase):
 
     def test_the_most_calls(self):
         self.assertEqual(answers(line(opening(), *([reading(1)] * 399))), [1, 0] * 400)
+        self.assertEqual(answers(line(opening(5, 0), *([going(), ticking(1), STATE] * 133))), [1, 0] * 400)
 
     def test_the_longest_row_and_list(self):
         calls = line(opening(), writing([1] * 29000), writing([2] * 993))
         self.assertEqual(len(calls), 30000)
         self.assertEqual(answers(calls), [1, 0, 1, 16384, 1, 0])
+
+    def test_the_longest_segment(self):
+        row = segment(9, 0, BEGINS, 0, [1] * (29000 - 14))
+        calls = line(opening(5, 0), coming(row), coming(row), reading(9000))
+        self.assertEqual(answers(calls[:29005] + [4, 9000]), [1, 0, 1, 1, 8193, 8192] + [1] * 8192)
+
+    def test_no_row(self):
+        self.assertEqual(answers([1, 5, 0, 5, 0, 2, 0, 8]), [1, 0, 1, 0, 1, 0, 1, 0])
+
+    def test_bytes_that_look_like_calls(self):
+        self.assertEqual(answers([1, 5, 0, 5, 4, 3, 4, 1, 2, 3]), [1, 0, 1, 0, 1, 0])
+
+    def test_many_numbers_answered(self):
+        calls = [opening(5, 1), going(), coming(segment(9, 6, BEGINS | ANSWERS, 65535)), writing([7] * 16384)]
+        got = answers(line(*calls, *([going()] * 30 + [ticking(60000)]) * 12))
+        self.assertGreater(len(got), 190000)
+        self.assertEqual(got[-2:], [1, 1])
 
 
 class WhatItLeavesAlone(unittest.TestCase):
